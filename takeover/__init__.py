@@ -1,0 +1,1 @@
+"""One kind takes over the other."""

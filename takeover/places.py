@@ -1,0 +1,156 @@
+"""Places that hold a new or an old kind and breed into one another.
+
+A set of places is the sum of 2 to the i over its places i. Such a set is also the state of all places:
+it holds those that have the new kind.
+"""
+
+MILLION = 1000000
+
+
+def takes(n, a, b, s, weights):
+    """The chance, in millionths, that the new kind holds all places in the end, where it begins at the set s."""
+    refusal = refusal_of(n, a, b, s, weights)
+    if refusal != 0:
+        return [refusal]
+    if s == 0:
+        return [0, 0]
+    if s == whole_set(n):
+        return [0, MILLION]
+    chance = first_unknown(takeover_equations(n, a, b, s, weights))
+    return [0, chance[0] * MILLION // chance[1]]
+
+
+def refusal_of(n, a, b, s, weights):
+    """The refusal's number, or 0 if there is none."""
+    if not weights_fit(n, weights) or not is_strength(a) or not is_strength(b):
+        return -1
+    if s < 0 or s > whole_set(n):
+        return -1
+    if not are_joined(n, weights):
+        return -2
+    return 0
+
+
+def weights_fit(n, weights):
+    # n comes first: the rows can be told apart only once it is known to be small and above 0.
+    if n < 2 or n > 5 or len(weights) != n * n:
+        return False
+    for weight in weights:
+        if weight < 0 or weight > 100:
+            return False
+    return 0 not in row_sums(n, weights)
+
+
+def is_strength(number):
+    return number >= 1 and number <= 100
+
+
+def row_sums(n, weights):
+    return [sum(weights[i * n:i * n + n]) for i in range(n)]
+
+
+def whole_set(n):
+    return (1 << n) - 1
+
+
+def holds(places, i):
+    """1 if the place i is in the set, else 0."""
+    return (places >> i) & 1
+
+
+def are_joined(n, weights):
+    for start in range(n):
+        if reached_from(n, weights, start) != whole_set(n):
+            return False
+    return True
+
+
+def reached_from(n, weights, start):
+    """The set of the places to which a way leads from the place start."""
+    reached = 1 << start
+    # No way without a detour has n steps or more, so n rounds find all that can be reached.
+    for length in range(n):
+        for i in range(n):
+            if holds(reached, i) == 1:
+                reached = reached | row_targets(n, weights, i)
+    return reached
+
+
+def row_targets(n, weights, i):
+    """The set of the places into which the place i may breed."""
+    targets = 0
+    for j in range(n):
+        if weights[i * n + j] > 0:
+            targets = targets | (1 << j)
+    return targets
+
+
+def spreads(n, weights):
+    """The chances of all ways from place to place, times one number that makes them whole."""
+    sums = row_sums(n, weights)
+    common = 1
+    for row_sum in sums:
+        common = common * row_sum
+    return [weight * (common // sums[k // n]) for k, weight in enumerate(weights)]
+
+
+def change_rate(n, a, b, spread, state, j):
+    """How readily the place j comes to hold the other kind, on a scale that is the same for all j of a state."""
+    strength = b if holds(state, j) == 1 else a
+    rate = 0
+    for i in range(n):
+        if holds(state, i) != holds(state, j):
+            rate = rate + strength * spread[i * n + j]
+    return rate
+
+
+def takeover_equations(n, a, b, s, weights):
+    """One equation for each state in which both kinds live, the unknowns being the chances of a takeover from there.
+
+    The one for s comes first.
+    """
+    spread = spreads(n, weights)
+    states = [s] + [state for state in range(1, whole_set(n)) if state != s]
+    columns = {}
+    for k, state in enumerate(states):
+        columns[state] = k + 1
+    return [takeover_equation(n, a, b, spread, state, columns) for state in states]
+
+
+def takeover_equation(n, a, b, spread, state, columns):
+    """A row: the constant of the right side, then the factor of each unknown on the left.
+
+    Steps that change nothing are left out, and so is what all rates of one state are divided by: neither bears on
+    where the changes lead.
+    """
+    row = [0] * (len(columns) + 1)
+    for j in range(n):
+        rate = change_rate(n, a, b, spread, state, j)
+        after = state ^ (1 << j)
+        row[columns[state]] = row[columns[state]] + rate
+        # From the empty state the chance is 0, so it leaves no trace in the row; from the whole set it is 1.
+        if after == whole_set(n):
+            row[0] = row[0] + rate
+        elif after != 0:
+            row[columns[after]] = row[columns[after]] - rate
+    return row
+
+
+def first_unknown(rows):
+    """The first unknown of the equations as a pair: it is the first number divided by the second, which is above 0.
+
+    The last equation is used up to remove the last unknown, till one is left. Its factor there is never 0, since the
+    places are joined: from each state the changes lead to an end.
+    """
+    divisor = 1
+    while len(rows) > 1:
+        last = rows[-1]
+        rows = [without_last(row, last, divisor) for row in rows[:-1]]
+        divisor = last[-1]
+    return (rows[0][0], rows[0][1])
+
+
+def without_last(row, last, divisor):
+    # Every number here is a determinant of the first equations' numbers once it is divided by the factor that was
+    # used the time before (Bareiss), so the division leaves no rest, and the numbers stay small.
+    return [(row[k] * last[-1] - row[-1] * last[k]) // divisor for k in range(len(row) - 1)]

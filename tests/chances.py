@@ -1,0 +1,91 @@
+"""The chance of a takeover by other ways than the program's own, in exact fractions."""
+
+from fractions import Fraction
+
+
+def downwards(chance):
+    """A fraction in millionths."""
+    return chance.numerator * 1000000 // chance.denominator
+
+
+def breeding_chances(n, weights):
+    rows = [weights[i * n:i * n + n] for i in range(n)]
+    return [[Fraction(weight, sum(row)) for weight in row] for row in rows]
+
+
+def step_chances(n, a, b, state, weights):
+    """What one step makes of a state, told as in the document: who breeds, and then where to."""
+    breeding = breeding_chances(n, weights)
+    strengths = [a if state >> i & 1 else b for i in range(n)]
+    after = {}
+    for i in range(n):
+        for j in range(n):
+            to = state | 1 << j if state >> i & 1 else state & ~(1 << j)
+            chance = Fraction(strengths[i], sum(strengths)) * breeding[i][j]
+            after[to] = after.get(to, Fraction(0)) + chance
+    return after
+
+
+def solved(rows):
+    """The unknowns of equations, each row the factors and then the right side."""
+    rows = [list(row) for row in rows]
+    size = len(rows)
+    for k in range(size):
+        pivot = next(r for r in range(k, size) if rows[r][k] != 0)
+        rows[k], rows[pivot] = rows[pivot], rows[k]
+        rows[k] = [number / rows[k][k] for number in rows[k]]
+        for r in range(size):
+            if r != k and rows[r][k] != 0:
+                factor = rows[r][k]
+                rows[r] = [x - factor * y for x, y in zip(rows[r], rows[k])]
+    return [row[-1] for row in rows]
+
+
+def chances_by_steps(n, a, b, weights):
+    """The chances from all states: each is the mean of the chances from where one step leads."""
+    states = range(2 ** n)
+    rows = []
+    for state in states:
+        row = [Fraction(0)] * (2 ** n + 1)
+        row[state] += 1
+        if state == 2 ** n - 1:
+            row[-1] = Fraction(1)
+        elif state != 0:
+            for to, chance in step_chances(n, a, b, state, weights).items():
+                row[to] -= chance
+        rows.append(row)
+    return solved(rows)
+
+
+def chance_of_two(a, b, s, weights):
+    """Of two places, the first change decides."""
+    breeding = breeding_chances(2, weights)
+    first, second = (a, b) if s == 1 else (b, a)
+    out_of_first = first * breeding[0][1]
+    out_of_second = second * breeding[1][0]
+    share = out_of_first / (out_of_first + out_of_second)
+    return share if s == 1 else 1 - share
+
+
+def chance_of_even_heat(n, a, b, count):
+    """Where all heats are 1, only the count of new places matters: each change is a gain a times for b losses."""
+    if a == b:
+        return Fraction(count, n)
+    loss = Fraction(b, a)
+    return (1 - loss ** count) / (1 - loss ** n)
+
+
+def chances_of_equal_kinds(n, weights):
+    """Where a = b, each place has a share, and a set's chance is the sum of its places' shares.
+
+    A share times the heat of its place is the mean share of the places that the place breeds into.
+    """
+    breeding = breeding_chances(n, weights)
+    rows = []
+    for i in range(n - 1):
+        row = [-breeding[i][j] for j in range(n)] + [Fraction(0)]
+        row[i] += sum(breeding[k][i] for k in range(n))
+        rows.append(row)
+    rows.append([Fraction(1)] * (n + 1))
+    shares = solved(rows)
+    return [sum((shares[i] for i in range(n) if s >> i & 1), Fraction(0)) for s in range(2 ** n)]
