@@ -16,8 +16,32 @@ def takes(n, a, b, s, weights):
         return [0, 0]
     if s == whole_set(n):
         return [0, MILLION]
-    chance = first_unknown(takeover_equations(n, a, b, s, weights))
-    return [0, chance[0] * MILLION // chance[1]]
+    return [0, millionths(first_unknown(takeover_equations(n, a, b, s, weights)))]
+
+
+def mean(n, a, b, weights):
+    """The mean of that chance, in millionths, over all starts with one place."""
+    # No start is handed in, so there is none to refuse: the empty set is always a set of places.
+    refusal = refusal_of(n, a, b, 0, weights)
+    if refusal != 0:
+        return [refusal]
+    total = (0, 1)
+    for chance in chances_from_one(n, a, b, weights):
+        total = pair_sum(total, chance)
+    return [0, millionths((total[0], total[1] * n))]
+
+
+def chances_from_one(n, a, b, weights):
+    """For each place the chance of a takeover from there alone, as a pair like that of first_unknown."""
+    return [first_unknown(takeover_equations(n, a, b, 1 << i, weights)) for i in range(n)]
+
+
+def pair_sum(one, other):
+    return (one[0] * other[1] + other[0] * one[1], one[1] * other[1])
+
+
+def millionths(pair):
+    return pair[0] * MILLION // pair[1]
 
 
 def refusal_of(n, a, b, s, weights):

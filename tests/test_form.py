@@ -21,6 +21,8 @@ PYTHONS_OWN = {'len', 'range', 'enumerate', 'zip', 'min', 'max', 'sum', 'abs', '
                'tuple', 'dict', 'any', 'all', 'divmod'}
 METHODS = {'append', 'copy', 'count', 'extend', 'get', 'index', 'insert', 'items', 'keys', 'pop', 'values'}
 WORDS_NOT_USED = ('type', 'typing', 'enum', 'Enum', 'Flag', 'Generic', 'Protocol', 'ABC', 'namedtuple')
+INTERFACE = {'takes': '(n, a, b, s, weights)',
+             'mean': '(n, a, b, weights)'}
 
 
 class Form(unittest.TestCase):
@@ -65,8 +67,10 @@ class Form(unittest.TestCase):
             self.assertLessEqual(read - set(bound), PYTHONS_OWN)
 
     def test_the_interface(self):
-        self.assertEqual(str(inspect.signature(takeover.places.takes)), '(n, a, b, s, weights)')
+        for name, parameters in INTERFACE.items():
+            self.assertEqual(str(inspect.signature(getattr(takeover.places, name))), parameters)
         self.assertEqual(takeover.places.takes(n=2, a=1, b=1, s=1, weights=[0, 1, 1, 0]), [0, 500000])
+        self.assertEqual(takeover.places.mean(n=2, a=1, b=1, weights=[0, 1, 1, 0]), [0, 500000])
 
 
 if __name__ == '__main__':

@@ -3,48 +3,9 @@ import unittest
 from fractions import Fraction
 
 import chances
+from samples import (PATH_OF_3, RING_OF_3, RING_OF_5, STAR_OF_4, UNEVEN_3, UNEVEN_4, UNEVEN_5, full,
+                     random_weights)
 from takeover.places import takes
-
-RING_OF_3 = [0, 1, 0,
-             0, 0, 1,
-             1, 0, 0]
-PATH_OF_3 = [0, 1, 0,
-             1, 0, 1,
-             0, 1, 0]
-UNEVEN_3 = [1, 2, 0,
-            0, 3, 4,
-            5, 0, 0]
-STAR_OF_4 = [0, 1, 1, 1,
-             1, 0, 0, 0,
-             1, 0, 0, 0,
-             1, 0, 0, 0]
-UNEVEN_4 = [0, 7, 0, 1,
-            2, 2, 9, 0,
-            0, 0, 5, 3,
-            100, 0, 1, 0]
-RING_OF_5 = [0, 3, 0, 0, 2,
-             2, 0, 3, 0, 0,
-             0, 2, 0, 3, 0,
-             0, 0, 2, 0, 3,
-             3, 0, 0, 2, 0]
-UNEVEN_5 = [11, 0, 97, 3, 0,
-            0, 0, 0, 1, 100,
-            29, 31, 0, 0, 0,
-            0, 0, 17, 13, 19,
-            1, 2, 3, 4, 5]
-
-
-def full(n):
-    """Every place breeds into every other one alike."""
-    return [0 if i == j else 1 for i in range(n) for j in range(n)]
-
-
-def random_weights(source, n, greatest):
-    """Random weights, with a ring above 0 among them, so that the places are joined."""
-    weights = [source.choice([0, source.randint(0, greatest)]) for k in range(n * n)]
-    for i in range(n):
-        weights[i * n + (i + 1) % n] = source.randint(1, greatest)
-    return weights
 
 
 class ByHand(unittest.TestCase):
