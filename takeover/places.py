@@ -31,6 +31,16 @@ def mean(n, a, b, weights):
     return [0, millionths((total[0], total[1] * n))]
 
 
+def lasts(n, a, b, s, weights):
+    """How many steps, in millionths, are to be expected from the set s till all places hold one kind."""
+    refusal = refusal_of(n, a, b, s, weights)
+    if refusal != 0:
+        return [refusal]
+    if s == 0 or s == whole_set(n):
+        return [0, 0]
+    return [0, millionths(first_unknown(lasting_equations(n, a, b, s, weights)))]
+
+
 def chances_from_one(n, a, b, weights):
     """For each place the chance of a takeover from there alone, as a pair like that of first_unknown."""
     return [first_unknown(takeover_equations(n, a, b, 1 << i, weights)) for i in range(n)]
@@ -131,32 +141,60 @@ def change_rate(n, a, b, spread, state, j):
 def takeover_equations(n, a, b, s, weights):
     """One equation for each state in which both kinds live, the unknowns being the chances of a takeover from there.
 
-    The one for s comes first.
+    The one for s comes first. In its row the right side's constant stands ahead of the unknowns' factors.
     """
     spread = spreads(n, weights)
-    states = [s] + [state for state in range(1, whole_set(n)) if state != s]
-    columns = {}
-    for k, state in enumerate(states):
-        columns[state] = k + 1
-    return [takeover_equation(n, a, b, spread, state, columns) for state in states]
+    states = mixed_states(n, s)
+    return [[takeover_rate(n, a, b, spread, state)] + factors(n, a, b, spread, state, states) for state in states]
 
 
-def takeover_equation(n, a, b, spread, state, columns):
-    """A row: the constant of the right side, then the factor of each unknown on the left.
+def lasting_equations(n, a, b, s, weights):
+    """The same for the steps that are to be expected from each such state.
 
-    Steps that change nothing are left out, and so is what all rates of one state are divided by: neither bears on
-    where the changes lead.
+    All rates of a state together, those of the steps that change nothing among them, have the sum full_rate: that is
+    what one step counts for on their scale.
     """
-    row = [0] * (len(columns) + 1)
+    spread = spreads(n, weights)
+    states = mixed_states(n, s)
+    return [[full_rate(n, a, b, spread, state)] + factors(n, a, b, spread, state, states) for state in states]
+
+
+def mixed_states(n, first):
+    """All states in which both kinds live, first ahead of the others."""
+    return [first] + [state for state in range(1, whole_set(n)) if state != first]
+
+
+def takeover_rate(n, a, b, spread, state):
+    """How readily one change lets the new kind hold all places."""
+    rate = 0
+    for j in range(n):
+        if state ^ (1 << j) == whole_set(n):
+            rate = rate + change_rate(n, a, b, spread, state, j)
+    return rate
+
+
+def full_rate(n, a, b, spread, state):
+    rate = 0
+    for i in range(n):
+        strength = a if holds(state, i) == 1 else b
+        rate = rate + strength * sum(spread[i * n:i * n + n])
+    return rate
+
+
+def factors(n, a, b, spread, state, states):
+    """The factors of the unknowns of all states, in the equation for one of them.
+
+    Steps that change nothing are left out: they lead to the same unknown on both sides. What all rates of one state
+    are divided by is left out on both sides, too.
+    """
+    row = [0] * len(states)
     for j in range(n):
         rate = change_rate(n, a, b, spread, state, j)
         after = state ^ (1 << j)
-        row[columns[state]] = row[columns[state]] + rate
-        # From the empty state the chance is 0, so it leaves no trace in the row; from the whole set it is 1.
-        if after == whole_set(n):
-            row[0] = row[0] + rate
-        elif after != 0:
-            row[columns[after]] = row[columns[after]] - rate
+        row[states.index(state)] = row[states.index(state)] + rate
+        # Where one kind holds all places nothing is unknown.
+        if after != 0 and after != whole_set(n):
+            row[states.index(after)] = row[states.index(after)] - rate
     return row
 
 

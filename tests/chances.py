@@ -1,4 +1,4 @@
-"""The chance of a takeover by other ways than the program's own, in exact fractions."""
+"""The chance of a takeover, and its steps, by other ways than the program's own, in exact fractions."""
 
 from fractions import Fraction
 
@@ -89,3 +89,54 @@ def chances_of_equal_kinds(n, weights):
     rows.append([Fraction(1)] * (n + 1))
     shares = solved(rows)
     return [sum((shares[i] for i in range(n) if s >> i & 1), Fraction(0)) for s in range(2 ** n)]
+
+
+def steps_by_steps(n, a, b, weights):
+    """The steps to be expected from all states: one more than the mean of those from where one step leads."""
+    rows = []
+    for state in range(2 ** n):
+        row = [Fraction(0)] * (2 ** n + 1)
+        row[state] += 1
+        if state not in (0, 2 ** n - 1):
+            row[-1] = Fraction(1)
+            for to, chance in step_chances(n, a, b, state, weights).items():
+                row[to] -= chance
+        rows.append(row)
+    return solved(rows)
+
+
+def steps_by_visits(n, a, b, s, weights):
+    """How often each state in which both kinds live is to be expected, from s, and the sum of that.
+
+    Each is come upon as often as a step leads to it from those, and once more if it is s.
+    """
+    states = range(1, 2 ** n - 1)
+    rows = [[Fraction(int(k == r)) for k in states] + [Fraction(int(r == s))] for r in states]
+    for state in states:
+        for to, chance in step_chances(n, a, b, state, weights).items():
+            if to in states:
+                rows[to - 1][state - 1] -= chance
+    return sum(solved(rows))
+
+
+def steps_of_two(a, b, s, weights):
+    """Of two places, the first change is the end: the steps are 1 divided by its chance."""
+    breeding = breeding_chances(2, weights)
+    first, second = (a, b) if s == 1 else (b, a)
+    return (a + b) / (first * breeding[0][1] + second * breeding[1][0])
+
+
+def steps_of_all_alike(n, a, b, count):
+    """Where every place breeds into every other one alike, only the count of new places matters.
+
+    A sum in closed form, for a count that goes up and down by one (as for Moran's process).
+    """
+    loss = Fraction(b, a)
+
+    def gain(k):
+        return Fraction(a * k, a * k + b * (n - k)) * Fraction(n - k, n - 1)
+
+    def upto(k):
+        return sum(loss ** (k - m) / gain(m) for m in range(1, k + 1))
+    from_one = sum(upto(k) for k in range(1, n)) / sum(loss ** k for k in range(n))
+    return sum(upto(k) for k in range(count, n)) - from_one * sum(loss ** k for k in range(count, n))

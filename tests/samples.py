@@ -27,6 +27,12 @@ UNEVEN_5 = [11, 0, 97, 3, 0,
             29, 31, 0, 0, 0,
             0, 0, 17, 13, 19,
             1, 2, 3, 4, 5]
+# Place 0 is bred into but rarely, and place 2 breeds into it but rarely.
+SLOW_5 = [0, 0, 1, 0, 0,
+          0, 0, 0, 0, 100,
+          1, 100, 100, 100, 100,
+          0, 100, 1, 100, 100,
+          0, 100, 0, 1, 100]
 # Each with its number of places: those that are not alike, from 2 to 5 places, with weights to itself.
 UNEVEN = [(2, [5, 1, 100, 0]), (3, UNEVEN_3), (4, UNEVEN_4), (5, UNEVEN_5)]
 # Places that aren't joined.
@@ -44,6 +50,11 @@ APART = [(2, [1, 0, 0, 1]),            # each keeps to itself
 def full(n):
     """Every place breeds into every other one alike."""
     return [0 if i == j else 1 for i in range(n) for j in range(n)]
+
+
+def patient_ring(n):
+    """Every place keeps 100 of 101 to itself, the rest goes to the one behind it."""
+    return [100 if i == j else 1 if j == (i + 1) % n else 0 for i in range(n) for j in range(n)]
 
 
 def random_weights(source, n, greatest):

@@ -22,7 +22,8 @@ PYTHONS_OWN = {'len', 'range', 'enumerate', 'zip', 'min', 'max', 'sum', 'abs', '
 METHODS = {'append', 'copy', 'count', 'extend', 'get', 'index', 'insert', 'items', 'keys', 'pop', 'values'}
 WORDS_NOT_USED = ('type', 'typing', 'enum', 'Enum', 'Flag', 'Generic', 'Protocol', 'ABC', 'namedtuple')
 INTERFACE = {'takes': '(n, a, b, s, weights)',
-             'mean': '(n, a, b, weights)'}
+             'mean': '(n, a, b, weights)',
+             'lasts': '(n, a, b, s, weights)'}
 
 
 class Form(unittest.TestCase):
@@ -71,6 +72,7 @@ class Form(unittest.TestCase):
             self.assertEqual(str(inspect.signature(getattr(takeover.places, name))), parameters)
         self.assertEqual(takeover.places.takes(n=2, a=1, b=1, s=1, weights=[0, 1, 1, 0]), [0, 500000])
         self.assertEqual(takeover.places.mean(n=2, a=1, b=1, weights=[0, 1, 1, 0]), [0, 500000])
+        self.assertEqual(takeover.places.lasts(n=2, a=1, b=1, s=1, weights=[0, 1, 1, 0]), [0, 1000000])
 
 
 if __name__ == '__main__':

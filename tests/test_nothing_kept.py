@@ -5,7 +5,7 @@ import random
 import unittest
 
 import takeover.places
-from takeover.places import mean, takes
+from takeover.places import lasts, mean, takes
 
 # n, a, b, s, weights
 INPUTS = [(2, 3, 2, 1, [0, 1, 1, 3]),
@@ -31,7 +31,12 @@ def asked_mean(n, a, b, s, weights):
     return mean(n, a, b, weights)
 
 
-CALLS = [(function, given) for given in INPUTS for function in (asked_takes, asked_mean)]
+def asked_lasts(n, a, b, s, weights):
+    return lasts(n, a, b, s, weights)
+
+
+FUNCTIONS = [asked_takes, asked_mean, asked_lasts]
+CALLS = [(function, given) for given in INPUTS for function in FUNCTIONS]
 
 
 def answers(calls):
@@ -78,10 +83,12 @@ class NothingKept(unittest.TestCase):
         weights = [0, 1, 1, 0]
         self.assertEqual(takes(2, 1, 1, 1, weights), [0, 500000])
         self.assertEqual(mean(2, 2, 1, weights), [0, 666666])
+        self.assertEqual(lasts(2, 1, 1, 1, weights), [0, 1000000])
         weights[3] = 3
         self.assertEqual(takes(2, 1, 1, 1, weights), [0, 800000])
         # 8/9 from place 0, 1/3 from place 1.
         self.assertEqual(mean(2, 2, 1, weights), [0, 611111])
+        self.assertEqual(lasts(2, 1, 1, 1, weights), [0, 1600000])
 
     def test_an_answer_is_the_callers_own(self):
         for function, given in CALLS:

@@ -3,7 +3,7 @@
 import unittest
 
 from samples import APART
-from takeover.places import mean, takes
+from takeover.places import lasts, mean, takes
 
 LEAST = -2147483648
 GREATEST = 2147483647
@@ -186,6 +186,16 @@ class Takes(WrongWeights, WrongStrengths, WrongStart, unittest.TestCase):
 class Mean(WrongWeights, WrongStrengths, unittest.TestCase):
     def ask(self, n, weights, a=1, b=1, s=1):
         return mean(n, a, b, weights)
+
+
+class Lasts(WrongWeights, WrongStrengths, WrongStart, unittest.TestCase):
+    def ask(self, n, weights, a=1, b=1, s=1):
+        return lasts(n, a, b, s, weights)
+
+    def assert_answered(self, n, answer):
+        self.assert_plain(answer)
+        self.assertEqual((len(answer), answer[0]), (2, 0))
+        self.assertGreaterEqual(answer[1], 0)
 
 
 if __name__ == '__main__':
