@@ -41,6 +41,18 @@ def lasts(n, a, b, s, weights):
     return [0, millionths(first_unknown(lasting_equations(n, a, b, s, weights)))]
 
 
+def heats(n, weights):
+    """1 if all heats are 1, else 0; then the heat of each place, in millionths."""
+    if not weights_fit(n, weights):
+        return [-1]
+    spread = spreads(n, weights)
+    sums = [column_sum(n, spread, j) for j in range(n)]
+    # A row's chances have the sum 1, so its numbers tell what 1 is on their scale.
+    one = sum(spread[:n])
+    even = 1 if sums == [one] * n else 0
+    return [even] + [millionths((heat, one)) for heat in sums]
+
+
 def chances_from_one(n, a, b, weights):
     """For each place the chance of a takeover from there alone, as a pair like that of first_unknown."""
     return [first_unknown(takeover_equations(n, a, b, 1 << i, weights)) for i in range(n)]
@@ -81,6 +93,10 @@ def is_strength(number):
 
 def row_sums(n, weights):
     return [sum(weights[i * n:i * n + n]) for i in range(n)]
+
+
+def column_sum(n, numbers, j):
+    return sum([numbers[i * n + j] for i in range(n)])
 
 
 def whole_set(n):

@@ -13,6 +13,11 @@ def breeding_chances(n, weights):
     return [[Fraction(weight, sum(row)) for weight in row] for row in rows]
 
 
+def heats_by_fractions(n, weights):
+    breeding = breeding_chances(n, weights)
+    return [sum(breeding[i][j] for i in range(n)) for j in range(n)]
+
+
 def step_chances(n, a, b, state, weights):
     """What one step makes of a state, told as in the document: who breeds, and then where to."""
     breeding = breeding_chances(n, weights)

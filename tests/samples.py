@@ -27,12 +27,16 @@ UNEVEN_5 = [11, 0, 97, 3, 0,
             29, 31, 0, 0, 0,
             0, 0, 17, 13, 19,
             1, 2, 3, 4, 5]
-# Place 0 is bred into but rarely, and place 2 breeds into it but rarely.
+# Place 0 is bred into by place 2 alone, and rarely.
 SLOW_5 = [0, 0, 1, 0, 0,
           0, 0, 0, 0, 100,
           1, 100, 100, 100, 100,
           0, 100, 1, 100, 100,
           0, 100, 0, 1, 100]
+# The heats are 1 and a bit (1/1025100), 1, and 1 less that bit.
+ALMOST_EVEN_3 = [42, 67, 92,
+                 97, 68, 39,
+                 71, 75, 79]
 # Each with its number of places: those that are not alike, from 2 to 5 places, with weights to itself.
 UNEVEN = [(2, [5, 1, 100, 0]), (3, UNEVEN_3), (4, UNEVEN_4), (5, UNEVEN_5)]
 # Places that aren't joined.

@@ -23,7 +23,8 @@ METHODS = {'append', 'copy', 'count', 'extend', 'get', 'index', 'insert', 'items
 WORDS_NOT_USED = ('type', 'typing', 'enum', 'Enum', 'Flag', 'Generic', 'Protocol', 'ABC', 'namedtuple')
 INTERFACE = {'takes': '(n, a, b, s, weights)',
              'mean': '(n, a, b, weights)',
-             'lasts': '(n, a, b, s, weights)'}
+             'lasts': '(n, a, b, s, weights)',
+             'heats': '(n, weights)'}
 
 
 class Form(unittest.TestCase):
@@ -73,6 +74,7 @@ class Form(unittest.TestCase):
         self.assertEqual(takeover.places.takes(n=2, a=1, b=1, s=1, weights=[0, 1, 1, 0]), [0, 500000])
         self.assertEqual(takeover.places.mean(n=2, a=1, b=1, weights=[0, 1, 1, 0]), [0, 500000])
         self.assertEqual(takeover.places.lasts(n=2, a=1, b=1, s=1, weights=[0, 1, 1, 0]), [0, 1000000])
+        self.assertEqual(takeover.places.heats(n=2, weights=[0, 1, 1, 0]), [1, 1000000, 1000000])
 
 
 if __name__ == '__main__':

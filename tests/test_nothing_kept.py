@@ -5,7 +5,7 @@ import random
 import unittest
 
 import takeover.places
-from takeover.places import lasts, mean, takes
+from takeover.places import heats, lasts, mean, takes
 
 # n, a, b, s, weights
 INPUTS = [(2, 3, 2, 1, [0, 1, 1, 3]),
@@ -35,7 +35,11 @@ def asked_lasts(n, a, b, s, weights):
     return lasts(n, a, b, s, weights)
 
 
-FUNCTIONS = [asked_takes, asked_mean, asked_lasts]
+def asked_heats(n, a, b, s, weights):
+    return heats(n, weights)
+
+
+FUNCTIONS = [asked_takes, asked_mean, asked_lasts, asked_heats]
 CALLS = [(function, given) for given in INPUTS for function in FUNCTIONS]
 
 
@@ -84,11 +88,13 @@ class NothingKept(unittest.TestCase):
         self.assertEqual(takes(2, 1, 1, 1, weights), [0, 500000])
         self.assertEqual(mean(2, 2, 1, weights), [0, 666666])
         self.assertEqual(lasts(2, 1, 1, 1, weights), [0, 1000000])
+        self.assertEqual(heats(2, weights), [1, 1000000, 1000000])
         weights[3] = 3
         self.assertEqual(takes(2, 1, 1, 1, weights), [0, 800000])
         # 8/9 from place 0, 1/3 from place 1.
         self.assertEqual(mean(2, 2, 1, weights), [0, 611111])
         self.assertEqual(lasts(2, 1, 1, 1, weights), [0, 1600000])
+        self.assertEqual(heats(2, weights), [0, 250000, 1750000])
 
     def test_an_answer_is_the_callers_own(self):
         for function, given in CALLS:

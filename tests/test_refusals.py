@@ -3,7 +3,7 @@
 import unittest
 
 from samples import APART
-from takeover.places import lasts, mean, takes
+from takeover.places import heats, lasts, mean, takes
 
 LEAST = -2147483648
 GREATEST = 2147483647
@@ -196,6 +196,20 @@ class Lasts(WrongWeights, WrongStrengths, WrongStart, unittest.TestCase):
         self.assert_plain(answer)
         self.assertEqual((len(answer), answer[0]), (2, 0))
         self.assertGreaterEqual(answer[1], 0)
+
+
+class Heats(WrongWeights, unittest.TestCase):
+    def ask(self, n, weights, a=1, b=1, s=1):
+        return heats(n, weights)
+
+    def assert_answered(self, n, answer):
+        self.assert_plain(answer)
+        self.assertEqual(len(answer), n + 1)
+        self.assertIn(answer[0], (0, 1))
+        self.assertTrue(all(0 <= heat <= n * 1000000 for heat in answer[1:]))
+
+    def assert_apart(self, n, answer):
+        self.assert_answered(n, answer)
 
 
 if __name__ == '__main__':
