@@ -20,9 +20,8 @@ def takes(n, a, b, s, weights):
 
 
 def mean(n, a, b, weights):
-    """The mean of that chance, in millionths, over all starts with one place."""
-    # No start is handed in, so there is none to refuse: the empty set is always a set of places.
-    refusal = refusal_of(n, a, b, 0, weights)
+    """The mean, in millionths, of the chance of a takeover over all starts with one place."""
+    refusal = refusal_without_start(n, a, b, weights)
     if refusal != 0:
         return [refusal]
     total = (0, 1)
@@ -53,6 +52,26 @@ def heats(n, weights):
     return [even] + [millionths((heat, one)) for heat in sums]
 
 
+def best(n, a, b, weights):
+    """The set of the places from which, with the new kind there alone, the chance of a takeover is the greatest."""
+    refusal = refusal_without_start(n, a, b, weights)
+    if refusal != 0:
+        return [refusal]
+    chances = chances_from_one(n, a, b, weights)
+    places = 0
+    for i in range(n):
+        if is_greatest(chances[i], chances):
+            places = places | (1 << i)
+    return [places]
+
+
+def is_greatest(pair, pairs):
+    for other in pairs:
+        if pair[0] * other[1] < other[0] * pair[1]:
+            return False
+    return True
+
+
 def chances_from_one(n, a, b, weights):
     """For each place the chance of a takeover from there alone, as a pair like that of first_unknown."""
     return [first_unknown(takeover_equations(n, a, b, 1 << i, weights)) for i in range(n)]
@@ -75,6 +94,11 @@ def refusal_of(n, a, b, s, weights):
     if not are_joined(n, weights):
         return -2
     return 0
+
+
+def refusal_without_start(n, a, b, weights):
+    # The empty set is always a set of places, so it is never the reason for a refusal.
+    return refusal_of(n, a, b, 0, weights)
 
 
 def weights_fit(n, weights):

@@ -24,7 +24,8 @@ WORDS_NOT_USED = ('type', 'typing', 'enum', 'Enum', 'Flag', 'Generic', 'Protocol
 INTERFACE = {'takes': '(n, a, b, s, weights)',
              'mean': '(n, a, b, weights)',
              'lasts': '(n, a, b, s, weights)',
-             'heats': '(n, weights)'}
+             'heats': '(n, weights)',
+             'best': '(n, a, b, weights)'}
 
 
 class Form(unittest.TestCase):
@@ -75,6 +76,7 @@ class Form(unittest.TestCase):
         self.assertEqual(takeover.places.mean(n=2, a=1, b=1, weights=[0, 1, 1, 0]), [0, 500000])
         self.assertEqual(takeover.places.lasts(n=2, a=1, b=1, s=1, weights=[0, 1, 1, 0]), [0, 1000000])
         self.assertEqual(takeover.places.heats(n=2, weights=[0, 1, 1, 0]), [1, 1000000, 1000000])
+        self.assertEqual(takeover.places.best(n=2, a=1, b=1, weights=[0, 1, 1, 0]), [3])
 
 
 if __name__ == '__main__':

@@ -1,11 +1,13 @@
 import contextlib
 import copy
+import importlib.util
 import io
+import itertools
 import random
 import unittest
 
 import takeover.places
-from takeover.places import heats, lasts, mean, takes
+from takeover.places import best, heats, lasts, mean, takes
 
 # n, a, b, s, weights
 INPUTS = [(2, 3, 2, 1, [0, 1, 1, 3]),
@@ -21,30 +23,29 @@ INPUTS = [(2, 3, 2, 1, [0, 1, 1, 3]),
           (6, 1, 1, 1, [1] * 36),
           (2, 1, 1, 1, []),
           (5, 1, 1, 1, [1] * 40)]
+# What each function takes of an input.
+FUNCTIONS = {'takes': lambda n, a, b, s, weights: (n, a, b, s, weights),
+             'mean': lambda n, a, b, s, weights: (n, a, b, weights),
+             'lasts': lambda n, a, b, s, weights: (n, a, b, s, weights),
+             'heats': lambda n, a, b, s, weights: (n, weights),
+             'best': lambda n, a, b, s, weights: (n, a, b, weights)}
+CALLS = [(name, given) for given in INPUTS for name in FUNCTIONS]
 
 
-def asked_takes(n, a, b, s, weights):
-    return takes(n, a, b, s, weights)
-
-
-def asked_mean(n, a, b, s, weights):
-    return mean(n, a, b, weights)
-
-
-def asked_lasts(n, a, b, s, weights):
-    return lasts(n, a, b, s, weights)
-
-
-def asked_heats(n, a, b, s, weights):
-    return heats(n, weights)
-
-
-FUNCTIONS = [asked_takes, asked_mean, asked_lasts, asked_heats]
-CALLS = [(function, given) for given in INPUTS for function in FUNCTIONS]
+def ask(name, given, module=takeover.places):
+    return getattr(module, name)(*FUNCTIONS[name](*given))
 
 
 def answers(calls):
-    return [function(*given) for function, given in calls]
+    return [ask(name, given) for name, given in calls]
+
+
+def new_module():
+    """The program as if nothing had been called yet."""
+    spec = importlib.util.spec_from_file_location('new_places', takeover.places.__file__)
+    module = importlib.util.module_from_spec(spec)
+    spec.loader.exec_module(module)
+    return module
 
 
 def forbidden(self, *arguments, **named):
@@ -60,28 +61,37 @@ class Guarded(list):
 
 class NothingKept(unittest.TestCase):
     def test_the_list_is_as_it_was(self):
-        for function, (n, a, b, s, weights) in CALLS:
+        for name, (n, a, b, s, weights) in CALLS:
             handed_in = list(weights)
-            function(n, a, b, s, handed_in)
+            ask(name, (n, a, b, s, handed_in))
             self.assertEqual(handed_in, weights)
 
     def test_the_list_is_not_changed_for_a_while_either(self):
-        for function, (n, a, b, s, weights) in CALLS:
-            self.assertEqual(function(n, a, b, s, Guarded(weights)), function(n, a, b, s, weights))
+        for name, (n, a, b, s, weights) in CALLS:
+            self.assertEqual(ask(name, (n, a, b, s, Guarded(weights))), ask(name, (n, a, b, s, weights)))
 
     def test_a_second_call_answers_the_same(self):
-        for function, given in CALLS:
-            self.assertEqual(function(*given), function(*given))
+        for name, given in CALLS:
+            self.assertEqual(ask(name, given), ask(name, given))
+
+    def test_all_functions_in_each_order(self):
+        # Five places take long, and are among the calls of the next test.
+        for given in INPUTS[:5] + INPUTS[6:]:
+            alone = {name: ask(name, given, new_module()) for name in FUNCTIONS}
+            for order in itertools.permutations(FUNCTIONS):
+                module = new_module()
+                for name in order:
+                    self.assertEqual(ask(name, given, module), alone[name])
 
     def test_calls_in_differing_orders(self):
-        first = answers(CALLS)
-        self.assertEqual(answers(CALLS), first)
-        self.assertEqual(answers(CALLS[::-1]), first[::-1])
+        alone = [ask(name, given, new_module()) for name, given in CALLS]
+        self.assertEqual(answers(CALLS), alone)
+        self.assertEqual(answers(CALLS[::-1]), alone[::-1])
         order = list(range(len(CALLS)))
         source = random.Random(5)
         for k in range(5):
             source.shuffle(order)
-            self.assertEqual(answers([CALLS[k] for k in order]), [first[k] for k in order])
+            self.assertEqual(answers([CALLS[k] for k in order]), [alone[k] for k in order])
 
     def test_one_list_changed_between_two_calls(self):
         weights = [0, 1, 1, 0]
@@ -89,20 +99,22 @@ class NothingKept(unittest.TestCase):
         self.assertEqual(mean(2, 2, 1, weights), [0, 666666])
         self.assertEqual(lasts(2, 1, 1, 1, weights), [0, 1000000])
         self.assertEqual(heats(2, weights), [1, 1000000, 1000000])
+        self.assertEqual(best(2, 1, 1, weights), [3])
         weights[3] = 3
         self.assertEqual(takes(2, 1, 1, 1, weights), [0, 800000])
         # 8/9 from place 0, 1/3 from place 1.
         self.assertEqual(mean(2, 2, 1, weights), [0, 611111])
         self.assertEqual(lasts(2, 1, 1, 1, weights), [0, 1600000])
         self.assertEqual(heats(2, weights), [0, 250000, 1750000])
+        self.assertEqual(best(2, 1, 1, weights), [1])
 
     def test_an_answer_is_the_callers_own(self):
-        for function, given in CALLS:
-            first = function(*given)
+        for name, given in CALLS:
+            first = ask(name, given)
             expected = list(first)
             first.append(7)
             first[0] = 99
-            self.assertEqual(function(*given), expected)
+            self.assertEqual(ask(name, given), expected)
 
     def test_the_module_stays_as_it_was(self):
         def kept():

@@ -3,7 +3,7 @@
 import unittest
 
 from samples import APART
-from takeover.places import heats, lasts, mean, takes
+from takeover.places import best, heats, lasts, mean, takes
 
 LEAST = -2147483648
 GREATEST = 2147483647
@@ -210,6 +210,16 @@ class Heats(WrongWeights, unittest.TestCase):
 
     def assert_apart(self, n, answer):
         self.assert_answered(n, answer)
+
+
+class Best(WrongWeights, WrongStrengths, unittest.TestCase):
+    def ask(self, n, weights, a=1, b=1, s=1):
+        return best(n, a, b, weights)
+
+    def assert_answered(self, n, answer):
+        self.assert_plain(answer)
+        self.assertEqual(len(answer), 1)
+        self.assertIn(answer[0], range(1, 2 ** n))
 
 
 if __name__ == '__main__':
